@@ -1,0 +1,1 @@
+"""Finesse: a laboratory of trick-taking card play."""
