@@ -13,6 +13,15 @@ INTERFACE = {
               "holder_of", "squeezed"],
     "numbering": ["choices", "set_of_number", "number_of_set", "count_deals",
                   "deal_of_number", "number_of_deal", "spread"],
+    "auction": ["Auction", "call_text", "read_call", "count_auctions"],
+    "play": ["winner_of", "Play", "play_at"],
+    "scores": ["needed", "score", "score_for", "compared"],
+    "forced": ["share", "card_shares", "best_cards", "alike", "line_of"],
+}
+METHODS = {
+    ("auction", "Auction"): ["turn", "calls", "legal", "call", "is_over", "contract"],
+    ("play", "Play"): ["deck", "trump", "hands", "leader", "led", "turn", "legal", "put", "take_back", "history",
+                       "tricks", "left", "is_over", "copy", "position"],
 }
 
 
@@ -29,6 +38,13 @@ class Layout(unittest.TestCase):
                 with self.subTest(file=file, name=name):
                     self.assertEqual(getattr(module, name).__module__, "finesse." + file)
                     self.assertEqual(getattr(module, name).__name__, name)
+
+    def test_each_method_is_defined_in_its_class(self):
+        for (file, name), methods in METHODS.items():
+            found = getattr(importlib.import_module("finesse." + file), name)
+            for method in ["__init__"] + methods:
+                with self.subTest(file=file, name=name, method=method):
+                    self.assertIn(method, vars(found))
 
 
 if __name__ == "__main__":
