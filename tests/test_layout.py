@@ -17,6 +17,11 @@ INTERFACE = {
     "play": ["winner_of", "Play", "play_at"],
     "scores": ["needed", "score", "score_for", "compared"],
     "forced": ["share", "card_shares", "best_cards", "alike", "line_of"],
+    "strategy": ["paper_holds", "paper_for", "follow", "shortened"],
+    "papertext": ["paper_text", "read_paper"],
+    "par": ["table_of", "par", "par_contracts", "makeable"],
+    "views": ["check_view", "view_of_play", "count_fits", "fit_of_number", "fits", "holding_chance",
+              "length_chances"],
 }
 METHODS = {
     ("auction", "Auction"): ["turn", "calls", "legal", "call", "is_over", "contract"],
