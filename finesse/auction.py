@@ -3,6 +3,7 @@
 from finesse.cards import SUIT_LETTERS
 from finesse.deals import PLAYERS
 from finesse.errors import AuctionNotOver, AuctionOver, IllegalCall, InvalidText
+from finesse.lines import read_number
 
 PASS = ("pass",)
 DOUBLE = ("double",)
@@ -11,7 +12,6 @@ DOUBLED = {"bid": 0, "double": 1, "redouble": 2}
 SHORT_TEXTS = {"pass": "P", "double": "X", "redouble": "XX"}
 CALLS_OF_TEXTS = {"P": ("pass",), "X": ("double",), "XX": ("redouble",)}
 NO_TRUMPS = "n"
-DIGITS = "0123456789"
 LONGEST_LEVEL = 2
 # Up to three passes.
 WAYS_BEFORE_BIDS = 4
@@ -172,12 +172,7 @@ def _strain_letters(suits):
 
 def _read_level(digits):
     """Return the level with these digits; raise InvalidText if there is none."""
-    if len(digits) > LONGEST_LEVEL or digits[0] == "0":
-        raise InvalidText("a level has one or two digits and does not begin with 0")
-    level = 0
-    for digit in digits:
-        value = DIGITS.find(digit)
-        if value < 0:
-            raise InvalidText("a level is written in digits")
-        level = 10 * level + value
+    level = read_number(digits, LONGEST_LEVEL)
+    if level == 0:
+        raise InvalidText("a level is at least 1")
     return level

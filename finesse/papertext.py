@@ -1,8 +1,9 @@
 """The texts of strategy papers."""
 
 from finesse.cards import SUIT_LETTERS, card_text, mask_of, read_card
-from finesse.deals import PLAYERS, deal_text, read_hand
+from finesse.deals import deal_text, read_hand
 from finesse.errors import InvalidText
+from finesse.lines import read_player
 from finesse.play import NO_TRUMPS
 
 LETTER_OF_NO_TRUMPS = "n"
@@ -42,7 +43,7 @@ def _read_entry(deck, line):
         raise InvalidText("an entry has eight words")
     trump = _read_trump(deck, words[0])
     hands = tuple([read_hand(deck, word) for word in words[1:5]])
-    leader = _read_leader(words[5])
+    leader = read_player(words[5])
     led = _read_trick(deck, words[6])
     _check_cards(hands, led)
     return (trump, hands, leader, led), read_card(deck, words[7])
@@ -59,13 +60,6 @@ def _read_trump(deck, word):
         if _trump_text(trump) == word:
             return trump
     raise InvalidText("no trump has this letter")
-
-
-def _read_leader(word):
-    for player in range(PLAYERS):
-        if str(player) == word:
-            return player
-    raise InvalidText("no player has this number")
 
 
 def _read_trick(deck, word):

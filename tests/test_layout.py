@@ -22,11 +22,17 @@ INTERFACE = {
     "par": ["table_of", "par", "par_contracts", "makeable"],
     "views": ["check_view", "view_of_play", "count_fits", "fit_of_number", "fits", "holding_chance",
               "length_chances"],
+    "chances": ["share_chances", "card_chances"],
+    "conditions": ["Condition", "count_where", "fits_where", "chance_where"],
+    "records": ["Record"],
+    "console": ["run_console"],
 }
 METHODS = {
     ("auction", "Auction"): ["turn", "calls", "legal", "call", "is_over", "contract"],
     ("play", "Play"): ["deck", "trump", "hands", "leader", "led", "turn", "legal", "put", "take_back", "history",
                        "tricks", "left", "is_over", "copy", "position"],
+    ("conditions", "Condition"): ["holds", "text"],
+    ("records", "Record"): ["deck", "hands", "dealer", "vulnerable", "auction", "play", "result", "text"],
 }
 
 
