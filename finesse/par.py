@@ -2,7 +2,7 @@
 
 from finesse.auction import levels_of
 from finesse.deals import PLAYERS, check_deal, next_player, side_of
-from finesse.play import NO_TRUMPS
+from finesse.play import trump_of
 from finesse.scores import needed, score_for
 from finesse.search import Search
 
@@ -62,10 +62,15 @@ def table_of(deck, hands):
     check_deal(deck, hands)
     search = Search(deck)
     table = []
-    for trump in list(range(deck[0])) + [NO_TRUMPS]:
-        positions = [(trump, hands, next_player(declarer), ()) for declarer in range(PLAYERS)]
-        table.append([search.share(position, side_of(declarer)) for declarer, position in enumerate(positions)])
+    for strain in range(deck[0] + 1):
+        table.append([forced_tricks(search, deck, hands, strain, declarer) for declarer in range(PLAYERS)])
     return table
+
+
+def forced_tricks(search, deck, hands, strain, declarer):
+    """Return the number of the tricks that a declarer's side can force in a strain."""
+    position = (trump_of(deck, strain), hands, next_player(declarer), ())
+    return search.share(position, side_of(declarer))
 
 
 def par(table, size, dealer, vulnerable):

@@ -115,6 +115,13 @@ def play_at(deck, position):
     return play
 
 
+def trump_of(deck, strain):
+    """Return the trump suit, or -1, that belongs to a strain."""
+    if strain == deck[0]:
+        return NO_TRUMPS
+    return strain
+
+
 def turn_at(position):
     """Return the player who has the turn in a position."""
     _, _, leader, led = position

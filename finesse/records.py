@@ -5,7 +5,7 @@ from finesse.cards import card_text, check_deck, count_cards, read_card
 from finesse.deals import PLAYERS, deal_text, next_player, read_deal, side_of
 from finesse.errors import FinesseError, InvalidLine, InvalidText
 from finesse.lines import LONGEST_NUMBER, lines_of, read_number, read_player, told_lines
-from finesse.play import NO_TRUMPS, Play
+from finesse.play import Play, trump_of
 from finesse.scores import score_for
 
 HEAD = ("deck", "deal", "dealer", "vulnerable")
@@ -148,5 +148,4 @@ def _read_deck(text):
 def _begun_play(deck, hands, contract):
     """Return the play of a deal with a contract, before the first card."""
     _, strain, _, declarer = contract
-    trump = strain if strain < deck[0] else NO_TRUMPS
-    return Play(deck, hands, trump, next_player(declarer))
+    return Play(deck, hands, trump_of(deck, strain), next_player(declarer))

@@ -4,12 +4,19 @@ from finesse.cards import mask_of, suit_of
 from finesse.deals import side_of
 from finesse.play import left_at, legal_at, position_after, trick_won, turn_at
 
+# Each player wants tricks for the own side.
+OWN_SIDES = (0, 1, 0, 1)
+
 
 class Search:
-    """Shares in positions of a deck; what has been found about a position is kept."""
+    """Shares in positions of a deck; what has been found about a position is kept.
 
-    def __init__(self, deck):
+    `wishes` tells for each player the side that the player wants to win tricks.
+    """
+
+    def __init__(self, deck, wishes=OWN_SIDES):
         self._deck = deck
+        self._wishes = wishes
         # From each position to the least and the most tricks that side 0 may force.
         self._bounds = {}
 
@@ -20,6 +27,12 @@ class Search:
         while self._forces(position, count + 1):
             count += 1
         return count if side == 0 else left - count
+
+    def can_win(self, position, side, goal):
+        """Return True if the share of a side in a position is at least a goal."""
+        if side == 0:
+            return self._forces(position, goal)
+        return not self._forces(position, left_at(position) - goal + 1)
 
     def card_shares(self, position):
         """Return the dict from each legal card to the share of the side that puts it."""
@@ -50,7 +63,7 @@ class Search:
 
     def _some_card_forces(self, position, goal):
         """Return what the side that has the turn can bring about for `goal` tricks of side 0."""
-        wanted = side_of(turn_at(position)) == 0
+        wanted = self._wishes[turn_at(position)] == 0
         # Cards of one group have the same share, so one of them is enough.
         for group in groups_at(self._deck, position):
             later = position_after(self._deck, position, group[0])

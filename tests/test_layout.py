@@ -26,6 +26,10 @@ INTERFACE = {
     "conditions": ["Condition", "count_where", "fits_where", "chance_where"],
     "records": ["Record"],
     "console": ["run_console"],
+    "plans": ["plan_wins", "plan_chance", "best_plan"],
+    "alike": ["with_suits", "with_trump", "standard", "count_alike"],
+    "claims": ["least_tricks", "most_tricks", "claim_holds"],
+    "systems": ["System", "unused", "boards", "overlap"],
 }
 METHODS = {
     ("auction", "Auction"): ["turn", "calls", "legal", "call", "is_over", "contract"],
@@ -33,6 +37,7 @@ METHODS = {
                        "tricks", "left", "is_over", "copy", "position"],
     ("conditions", "Condition"): ["holds", "text"],
     ("records", "Record"): ["deck", "hands", "dealer", "vulnerable", "auction", "play", "result", "text"],
+    ("systems", "System"): ["rules", "call_for", "auction_for", "counts"],
 }
 
 
