@@ -29,7 +29,8 @@ def standard(deck, hands, trump, leader):
 
 def count_alike(deck, hands, trump, leader):
     """Return how many deals of the deck have the same standard form."""
-    small, deal = squeezed(deck, turned(hands, (PLAYERS - leader) % PLAYERS))
+    # With the same leader for all of them, it does not matter who leads.
+    small, deal = squeezed(deck, hands)
     # Each of the squeezed deals comes from as many deals of the deck.
     count = len(set(_in_all_orders(small, deal, trump, trump)))
     for length in lengths(small, deal[0] | deal[1] | deal[2] | deal[3]):

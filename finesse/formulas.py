@@ -18,7 +18,8 @@ SPACE = " "
 # No token is a space.
 END = " "
 DEEPEST = 40
-# A formula needs brackets inside one that binds its parts more strongly.
+# A formula needs brackets inside one that binds its parts more strongly. Inside one of
+# the same kind it has none, and so the text shows both as one.
 STRENGTHS = {"or": 0, "and": 1, "not": 2, "has": 3, "compare": 3}
 
 
@@ -184,13 +185,10 @@ def _end_of_token(text, place):
 
 
 def _junction(word, parts):
-    """Return the parts joined by a word, and with what it joins inside them already."""
+    """Return the formula of one part, or of several ones joined by a word."""
     if len(parts) == 1:
         return parts[0]
-    joined = []
-    for part in parts:
-        joined += part[1] if part[0] == word else [part]
-    return word, joined
+    return word, parts
 
 
 def _text_inside(deck, kind, part):

@@ -73,6 +73,11 @@ class Meaning(unittest.TestCase):
                 for sign, answer in (("=", left == right), ("<=", left <= right), (">=", left >= right)):
                     self.assertIs(Condition((1, 1), f"{left} {sign} {right}").holds(NOTHING), answer)
 
+    def test_the_players_that_occur(self):
+        for text, players in (("0 = 0", []), ("points(2) = 1", [2]), ("has(3, ca) or not len(1, c) = 0", [1, 3]),
+                              ("1 + points(0) - 2 <= len(0, c) and (has(0, ca) or 1 = points(2) - points(3))", [0, 2, 3])):
+            self.assertEqual(Condition((1, 4), text).players(), players)
+
     def test_sums_go_from_the_left(self):
         for text, answer in (("5 - 3 - 1 = 1", True), ("5 - 3 + 1 = 3", True), ("1 - 2 <= 0", True),
                              ("0 - 9999 - 9999 <= 0 - 9999", True), ("1 + 2 - 3 = 0 - 0", True), ("2 = 5 - 3 - 1", False)):
