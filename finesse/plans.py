@@ -10,6 +10,7 @@ from finesse.search import Search, groups_at
 from finesse.views import count_fits, view_of_play
 
 MOST_PLAN_FITS = 200
+QUICK_WIDTH = 16
 
 
 class Trial:
@@ -42,11 +43,17 @@ class Planner:
     in them, which differ only in the hidden hands. In each of these fits the side can
     force all missing tricks with open hands; the other fits are lost anyhow. A set of
     fits is the mask of their indexes.
+
+    Sets that cannot belong to a plan that wins in at least `enough` of `total` fits at
+    the beginning are left out. So are, if `width` is not None, all but some great sets.
     """
 
-    def __init__(self, deck, side):
+    def __init__(self, deck, side, total, enough, width):
         self._deck = deck
         self._side = side
+        self._total = total
+        self._enough = enough
+        self._width = width
         self._search = Search(deck)
         self._found = {}
 
@@ -124,7 +131,7 @@ class Planner:
             found += self.winning_sets(later, rest)
             if whole in found:
                 return [whole]
-        return _greatest(found)
+        return self._useful(found, positions)
 
     def _sets_of_other_cards(self, positions, missing):
         whole = mask_of(list(positions))
@@ -134,8 +141,17 @@ class Planner:
             # Where this card cannot come, it does not matter how to go on after it.
             free = whole ^ mask_of(list(later))
             if sets != [whole ^ free]:
-                found = _greatest([begun & (some | free) for begun in found for some in sets])
+                joined = [begun & (some | free) for begun in found for some in sets]
+                found = self._useful(joined, positions)
+            if not found:
+                break
         return found
+
+    def _useful(self, sets, positions):
+        """Return those of some sets of the fits that may be that are not left out."""
+        elsewhere = self._total - len(positions)
+        great = [some for some in sets if count_cards(some) + elsewhere >= self._enough]
+        return _greatest(great)[:self._width]
 
 
 def plan_wins(play, goal, plan):
@@ -153,11 +169,16 @@ def plan_chance(play, goal, plan):
 def best_plan(play, goal):
     """Return a plan that wins in as many fits as possible; raise PlayOver or TooMany."""
     positions = _few_positions(play)
-    planner = Planner(play.deck(), side_of(play.turn()))
-    hopeful = planner.not_lost({index: position for index, position in enumerate(positions)}, goal)
-    won = max(planner.winning_sets(hopeful, goal), key=count_cards)
+    deck, side = play.deck(), side_of(play.turn())
+    total = len(positions)
+    # The first search finds a good plan soon; with it, the second one need not go through worse ones.
+    quick = Planner(deck, side, total, 0, QUICK_WIDTH)
+    hopeful = quick.not_lost({index: position for index, position in enumerate(positions)}, goal)
+    good = max([count_cards(some) for some in quick.winning_sets(hopeful, goal)])
+    won = max(Planner(deck, side, len(hopeful), good, None).winning_sets(hopeful, goal), key=count_cards)
     plan = {}
-    planner.tell((), {index: hopeful[index] for index in cards_of(won)}, goal, plan)
+    chosen = {index: hopeful[index] for index in cards_of(won)}
+    Planner(deck, side, len(chosen), len(chosen), None).tell((), chosen, goal, plan)
     return plan
 
 

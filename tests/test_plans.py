@@ -246,6 +246,20 @@ class BestPlans(unittest.TestCase):
         self.assertLess(time.perf_counter() - began, 60)
 
 
+    def test_four_cards_in_each_hand(self):
+        # Nothing is promised of the time; going through all sets of fits would need minutes here.
+        began = time.perf_counter()
+        for hands, trump, leader, goal, wins in (((40996, 19457, 600, 4482), 1, 3, 3, 45),
+                                                 ((33552, 17537, 8234, 6212), 0, 1, 3, 18),
+                                                 ((33552, 17537, 8234, 6212), 1, 1, 2, 64)):
+            play = Play((2, 8), hands, trump, leader)
+            plan = best_plan(play, goal)
+            self.check_kinds(plan)
+            self.assertEqual(len(plan_wins(play, goal, plan)), wins)
+        # This takes about two seconds.
+        self.assertLess(time.perf_counter() - began, 60)
+
+
 class Errors(unittest.TestCase):
     def test_a_play_that_is_over(self):
         for play in (walked((1, 4), (1, 2, 4, 8), -1, 2, 1, 4), play_at((4, 13), (3, (0, 0, 0, 0), 1, ()))):
